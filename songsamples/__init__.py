@@ -1,0 +1,1 @@
+"""Songs in the standard MIDI form: songsamples.song.answers makes the calls on one song."""
