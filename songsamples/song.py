@@ -1,17 +1,25 @@
 """The calls on one new object, one behind another, and what each of them answers."""
 
+from songsamples.mixer import mixed_samples
 from songsamples.songfile import read_song
 
 BEGIN = 0
 LOAD = 1
 EVENT = 2
+TIME = 3
+LENGTH = 4
 
 # How many numbers stand behind each call's own; of load the file's size alone is counted here.
 NUMBERS_BEHIND = (0, 1, 1, 1, 1, 3)
 
 MOST_BYTES = 262144
+LEAST_RATE = 8000
+MOST_RATE = 48000
+SAMPLE_LIMIT = 0x80000000
+MOST_SAMPLES = 4096
 
 NO_SUCH_EVENT = -1
+TOO_LONG = -7
 OUT_OF_RANGE = -8
 NO_SONG = -9
 
@@ -57,7 +65,11 @@ def answer_call(keeper, call, numbers):
         return [NO_SONG]
     if call == EVENT:
         return answer_event(keeper.song, numbers[0])
-    raise NotImplementedError("time, length and render of a song are not there yet")
+    if call == TIME:
+        return answer_time(keeper.song, numbers[0])
+    if call == LENGTH:
+        return answer_length(keeper.song, numbers[0])
+    return answer_render(keeper.song, numbers[0], numbers[1], numbers[2])
 
 
 def answer_begin(keeper):
@@ -81,3 +93,26 @@ def answer_event(song, k):
     found = song.events[k]
     first_two = (found.data[0:2] + [0, 0])[0:2]
     return [found.status, found.tick, found.track, len(found.data)] + first_two
+
+
+def answer_time(song, tick):
+    return [0, song.timeline.microseconds(tick)]
+
+
+def answer_length(song, rate):
+    if not is_rate(rate):
+        return [OUT_OF_RANGE]
+    sample = song.timeline.sample_of(song.timeline.total_before(song.last_tick()), rate)
+    if sample >= SAMPLE_LIMIT:
+        return [TOO_LONG]
+    return [sample]
+
+
+def answer_render(song, rate, first, n):
+    if not is_rate(rate) or first < 0 or n < 0 or n > MOST_SAMPLES:
+        return [OUT_OF_RANGE]
+    return [n] + mixed_samples(song, rate, first, n)
+
+
+def is_rate(rate):
+    return LEAST_RATE <= rate <= MOST_RATE

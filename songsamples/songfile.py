@@ -1,6 +1,8 @@
 """A song's file: what load keeps of it, or why there's no song."""
 
 from songsamples.bytereader import BrokenTracks, number_of
+from songsamples.score import play
+from songsamples.timeline import Timeline
 from songsamples.tracks import read_tracks
 
 HEADER_MARK = (0x4D, 0x54, 0x68, 0x64, 0, 0, 0, 6)
@@ -19,8 +21,12 @@ TOO_MANY_EVENTS = -5
 # The quarter is how many ticks it has; the events stand in the order of their numbers.
 class Song:
     def __init__(self, quarter, events):
-        self.quarter = quarter
         self.events = events
+        self.timeline = Timeline(quarter, events)
+        self.score = play(events, self.timeline)
+
+    def last_tick(self):
+        return self.events[-1].tick
 
 
 # Gives the number that load answers, and the song, or None where that number is a refusal.

@@ -29,6 +29,12 @@ class Event:
     def is_end_of_track(self):
         return self.status == META and self.data[0] == END_OF_TRACK
 
+    # The microseconds of a quarter that the event tells; None where it tells none.
+    def told_tempo(self):
+        if self.status == META and self.data[0] == TEMPO:
+            return number_of(self.data[1:])
+        return None
+
 
 # The events stand track by track, in each as in the file.
 def read_tracks(file, start, count):

@@ -1,4 +1,6 @@
-"""Builds song files and lists of calls, and takes lists of answers apart."""
+"""Builds song files and lists of calls, takes lists of answers apart, and reckons samples sample by sample."""
+
+import collections
 
 from songsamples.song import answers
 
@@ -79,3 +81,93 @@ def events_of(file, count):
         calls = [event(k) for k in range(start, min(start + 99, count))]
         rows.extend(ask(load(file), *calls)[1:])
     return rows
+
+
+def time(tick):
+    return [3, tick]
+
+
+def length(rate):
+    return [4, rate]
+
+
+def render(rate, first, n):
+    return [5, rate, first, n]
+
+
+def tempo(ticks, microseconds):
+    return after(ticks, [0xFF, 0x51, 3] + number(microseconds, 3))
+
+
+def after(ticks, body):
+    """An event so many ticks behind the one before; empty texts lie between if they are too many for one number."""
+    before = []
+    while ticks > 268435455:
+        before += long_number(268435455) + [0xFF, 1, 0]
+        ticks -= 268435455
+    return before + long_number(ticks) + body
+
+
+def rendered(file, rate, first, n):
+    """The samples of the song, each a pair of its left and right."""
+    row = ask(load(file), render(rate, first, n))[1]
+    if row[0] != n or len(row) != 1 + 2 * n:
+        raise AssertionError(f"render answered {row[:1]} and {len(row) - 1} samples for {n}")
+    return list(zip(row[1::2], row[2::2]))
+
+
+# From here on the samples as the document's words say them, sample by sample, of notes that a test lists itself.
+
+Note = collections.namedtuple("Note", "channel key hard program begin end")
+
+PITCHES = (548668578, 581294109, 615859655, 652480576, 691279090, 732384684,
+           775934544, 822074013, 870957077, 922746880, 977616265, 1035748353)
+
+
+def loud(k, end, rate):
+    if k < end:
+        return max(256 - (128 * k) // rate, 64)
+    return max(max(256 - (128 * end) // rate, 64) - (1024 * (k - end)) // rate, 0)
+
+
+def wave(channel, key, program, k, rate):
+    if channel == 9:
+        return ((k * k + key) * 2654435761 % 2 ** 32) // 65536 - 32768
+    step = (PITCHES[key % 12] * 65536) // (rate * 2 ** (10 - key // 12))
+    p = k * step % 2 ** 32
+    q = p // 65536
+    return (
+        32767 if p < 2 ** 31 else -32768,
+        2 * q - 32768 if q < 32768 else 98303 - 2 * q,
+        q - 32768,
+        32767 if p < 2 ** 30 else -32768,
+    )[program % 4]
+
+
+def control(settings, channel, number, sample):
+    """Settings are rows (sample, channel, number, value) in the song's order."""
+    value = {7: 100, 10: 64}[number]
+    for row in settings:
+        if row[0] <= sample and row[1:3] == (channel, number):
+            value = row[3]
+    return value
+
+
+def heard(notes, rate, first, n, settings=()):
+    pairs = []
+    for sample in range(first, first + n):
+        left = right = 0
+        for note in notes:
+            k = sample - note.begin
+            if k >= 0:
+                value = note.hard * control(settings, note.channel, 7, sample)
+                value *= loud(k, note.end - note.begin, rate) * wave(note.channel, note.key, note.program, k, rate)
+                side = control(settings, note.channel, 10, sample)
+                left += value * (127 - side)
+                right += value * side
+        pairs.append((kept(left // 2 ** 32), kept(right // 2 ** 32)))
+    return pairs
+
+
+def kept(value):
+    return max(-32768, min(32767, value))

@@ -5,7 +5,7 @@ import inspect
 import io
 import unittest
 
-from tests.helper import BEGIN, END, ask, chunk, event, load, song, taken_apart, track
+from tests.helper import BEGIN, END, ask, chunk, event, length, load, render, song, taken_apart, tempo, time, track
 from songsamples import song as song_module
 from songsamples.song import answers
 
@@ -13,11 +13,17 @@ CALLS = (
     event(0) + load(song(track([0, 0x90, 60, 100], [5, 62, 1])))
     + event(1) + load([1, 2]) + event(0) + BEGIN + load(song(track(), track([1, 0xC0, 3])))
     + event(2) + event(4) + event(-1)
+    + time(1) + length(8000) + load(song(track([0, 0x90, 60, 100], tempo(2, 1000000), [6, 0x80, 60, 0]), quarter=4000))
+    + time(0) + time(2) + time(4294967295) + length(8000) + length(48001) + render(8000, 0, 2) + render(8000, 0, 0)
+    + render(8000, -1, 1) + render(8000, 2147483647, 1) + BEGIN + time(0) + length(8000) + render(8000, 0, 2)
 )
 TOLD = [
     1, -9, 1, 3,
     6, 0x90, 5, 0, 2, 62, 1, 1, -1, 1, -9, 1, 0, 1, 3,
     6, 0xFF, 1, 1, 1, 0x2F, 0, 1, -1, 1, -8,
+    2, 0, 5208, 1, 41, 1, 4,
+    2, 0, 0, 2, 0, 250, 2, 0, 1073741823500, 1, 14, 1, -8, 5, 2, 1230, 1249, 1230, 1249, 1, 0,
+    1, -8, 3, 1, 0, 0, 1, 0, 1, -9, 1, -9, 1, -9,
 ]
 
 
